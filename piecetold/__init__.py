@@ -1,0 +1,1 @@
+"""Piecetold: one long run, done in pieces by workers who may lie."""
