@@ -26,6 +26,10 @@ def latest_parts():
     return [("put",), (("out", ("low", "high")),), (0, 1), rules]
 
 
+def latest_chain():
+    return Chain([Program(*latest_parts())])
+
+
 def small_parts():
     """A right program with two names, two channels, and states that keep 0, 1, 2 and 0 integers."""
     names = ("put", "take")

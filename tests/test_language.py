@@ -15,7 +15,27 @@ INTERFACE = {
     "chains.py": {"Chain": ["self", "programs", "links"], "names_of": ["chain"], "chain_start": ["chain"],
                   "chain_step": ["chain", "beginning", "message"], "deed_from": ["chain", "beginning", "messages"],
                   "after_deed": ["deed"], "written": ["deed", "program", "channel"]},
+    "classes.py": {"class_of": ["chain", "beginning", "messages"], "is_class": ["chain", "value"],
+                   "is_deed": ["chain", "some_class", "value"], "deed_of": ["chain", "some_class"],
+                   "served": ["chain", "beginning", "messages", "deed"], "all_classes": ["chain", "messages"]},
+    "desks.py": {"Desk": ["self", "chain", "liars"]},
+    "documents.py": {"Document": ["self", "desk"]},
+    "readers.py": {"splice": ["first", "second"], "spliced": ["messages", "change"], "Reader": ["self", "document"]},
 }
+
+METHODS_OF = {
+    "desks.py": {"Desk": {"tell": ["worker", "some_class", "deed"], "kept": ["some_class"], "classes": [],
+                          "open_count": [], "named": [], "guess": ["some_class"], "guesses": []}},
+    "documents.py": {"Document": {"put": ["place", "messages"], "drop": ["piece"], "change": ["piece", "messages"],
+                                  "move": ["piece", "place"], "cut": ["piece", "place"], "glue": ["piece"], "undo": [],
+                                  "redo": [], "pieces": [], "known": [], "front": [], "wanted": [],
+                                  "output": ["program", "channel"], "origin": ["program", "channel", "index"],
+                                  "next_class": ["worker"]}},
+    "readers.py": {"Reader": {"changes": []}},
+}
+
+ERRORS = """PieceError InvalidProgram InvalidChain InvalidBeginning InvalidInput InvalidClass InvalidDeed NoSuchPiece
+NoSuchPlace TooMuch NothingToUndo NothingToRedo InvalidWorker ToldOther InvalidDesk NoSuchChannel""".split()
 
 STATEMENTS = (
     ast.Assign, ast.AugAssign, ast.If, ast.While, ast.For, ast.Return, ast.Break, ast.Continue, ast.Pass, ast.Raise,
@@ -71,6 +91,20 @@ def defined_in(tree):
     return names
 
 
+def classes_of(tree):
+    return [node for node in tree.body if isinstance(node, ast.ClassDef)]
+
+
+def methods_in(node):
+    """The names of the methods that a class defines."""
+    return [part.name for part in node.body if isinstance(part, ast.FunctionDef)]
+
+
+def attributes_in(node):
+    """The names of the attributes that the methods of a class assign to their own object."""
+    return [part.attr for part in ast.walk(node) if isinstance(part, ast.Attribute) and isinstance(part.ctx, ast.Store)]
+
+
 def imported_in(tree):
     return [alias.name for node in tree.body if isinstance(node, ast.ImportFrom) for alias in node.names]
 
@@ -118,7 +152,35 @@ class LanguageTest(unittest.TestCase):
             for word in top:
                 self.assertFalse(hasattr(builtins, word), (name, word))
 
+    def test_attributes_and_methods(self):
+        nodes = [node for tree in trees().values() for node in classes_of(tree)]
+        methods = [name for node in nodes for name in methods_in(node) if name != "__init__"]
+        attributes = [name for node in nodes for name in attributes_in(node)]
+        for node in nodes:
+            self.assertEqual(len(methods_in(node)), len(set(methods_in(node))), node.name)
+        for name in methods + attributes:
+            self.assertTrue(re.fullmatch(r"[a-z][a-z0-9_]*", name), name)
+            self.assertFalse(any(hasattr(value, name) for value in (1, "", b"", [], {}, set(), ())), name)
+        self.assertEqual(set(methods) & set(attributes), set())
+        for tree in trees().values():
+            for node in ast.walk(tree):
+                if isinstance(node, ast.Attribute):
+                    self.assertIn(node.attr, methods + attributes + METHODS + ["__init__"])
+                if isinstance(node, ast.Attribute) and isinstance(node.ctx, ast.Store):
+                    self.assertIsInstance(node.value, ast.Name)
+
+    def test_words_that_do_not_occur(self):
+        words = """type typing enum Enum Flag Generic Protocol ABC namedtuple register mro elements law open input
+        global nonlocal async await""".split()
+        for name, tree in trees().items():
+            for node in ast.walk(tree):
+                if isinstance(node, ast.Constant) and isinstance(node.value, str):
+                    self.assertNotIn("%", node.value)
+                for word in [getattr(node, "id", ""), getattr(node, "attr", ""), getattr(node, "arg", "")]:
+                    self.assertNotIn(word, words, name)
+
     def test_only_builtins_and_methods_that_are_allowed(self):
+        own = [name for tree in trees().values() for node in classes_of(tree) for name in methods_in(node)]
         for name, tree in trees().items():
             known = defined_in(tree) + imported_in(tree) + BUILTINS
             local = [word for function in functions_of(tree) for word in bound_in(function)]
@@ -126,7 +188,7 @@ class LanguageTest(unittest.TestCase):
                 if isinstance(node, ast.Name) and isinstance(node.ctx, ast.Load):
                     self.assertIn(node.id, known + local, (name, node.lineno))
                 if isinstance(node, ast.Call) and isinstance(node.func, ast.Attribute):
-                    self.assertIn(node.func.attr, METHODS, (name, node.lineno))
+                    self.assertIn(node.func.attr, METHODS + own, (name, node.lineno))
 
     def test_imports_name_the_file_that_defines_the_name_and_form_no_circle(self):
         reached = {name: set() for name in trees()}
@@ -165,6 +227,18 @@ class InterfaceTest(unittest.TestCase):
                     node = [part for part in node.body if getattr(part, "name", "") == "__init__"][0]
                 self.assertEqual([argument.arg for argument in node.args.args], arguments, name)
                 self.assertEqual((node.args.vararg, node.args.kwonlyargs, node.args.kwarg), (None, [], None))
+
+    def test_each_method_is_defined_in_its_class(self):
+        for file, names in METHODS_OF.items():
+            for name, methods in names.items():
+                node = [part for part in classes_of(trees()[file]) if part.name == name][0]
+                found = {part.name: part for part in node.body if isinstance(part, ast.FunctionDef)}
+                for method, arguments in methods.items():
+                    self.assertEqual([argument.arg for argument in found[method].args.args], ["self"] + arguments, method)
+                    self.assertEqual(found[method].args.defaults, [], method)
+
+    def test_each_error_is_defined_in_its_file(self):
+        self.assertEqual([node.name for node in classes_of(trees()["errors.py"])], ERRORS)
 
 
 if __name__ == "__main__":

@@ -9,7 +9,7 @@ class ReadmeTest(unittest.TestCase):
     def test_the_examples_are_right(self):
         found = doctest.testfile(README, module_relative=False)
         self.assertEqual(found.failed, 0)
-        self.assertGreater(found.attempted, 8)
+        self.assertGreater(found.attempted, 30)
 
 
 if __name__ == "__main__":
